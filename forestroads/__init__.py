@@ -1,0 +1,1 @@
+"""Roads: which roads of a forest make building and carrying together the cheapest."""
