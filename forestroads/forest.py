@@ -1,4 +1,4 @@
-"""One forest: its places, roads and loads, and which of its roads are the cheapest."""
+"""One forest: its places, roads and loads, which of its roads are the cheapest, and how their cost may be shared."""
 
 GATE = 0
 
@@ -10,6 +10,7 @@ MOST_COST = 100000
 
 OUT_OF_BOUNDS = -1
 NO_SUCH = -2
+NOT_THE_COST = -3
 TOO_MANY = -5
 NOT_JOINED = -6
 
@@ -32,13 +33,33 @@ class Road:
         self.carry = carry
 
 
+class BuiltSet:
+    """A set of roads, as if built: their numbers, what building them costs, and the mark of each place."""
+
+    def __init__(self, numbers, roads, places):
+        built = [roads[number] for number in numbers]
+        self.numbers = numbers
+        self.build = sum([road.build for road in built])
+        self.marks = place_marks(built, places)
+
+    def cost_with(self, loads):
+        """What it costs with carrying these loads; None if it doesn't join all places that they come from."""
+        cost = self.build
+        for n, mark in zip(loads, self.marks):
+            if n > 0:
+                if mark == 0:
+                    return None
+                cost += n * (mark - 1)
+        return cost
+
+
 class Cheapest:
     """The cheapest of the sets that were offered: what it costs, how many are as cheap, the lowest of them."""
 
     def __init__(self):
         self.cost = None
         self.how_many = 0
-        self.lowest = []
+        self.lowest = None
 
     def offer(self, cost, chosen):
         """Sets are offered lowest first, so a later one that is as cheap never becomes the lowest."""
@@ -80,34 +101,85 @@ class Forest:
         if n > MOST_LOADS or i == GATE:
             return OUT_OF_BOUNDS
         before = self.loads[i]
-        if before == 0 and n > 0 and self.landings() == MOST_LANDINGS:
+        if before == 0 and n > 0 and len(self.landings()) == MOST_LANDINGS:
             return TOO_MANY
         self.loads[i] = n
         return before
 
     def best(self):
-        cheapest = cheapest_sets(self.roads, self.loads)
+        cheapest = cheapest_for(self.loads, self.every_set())
         if cheapest.cost is None:
-            return Answer(NOT_JOINED, [])
-        built = [self.roads[number] for number in cheapest.lowest]
-        counts = [cheapest.how_many, building_cost(built)]
-        marks = place_marks(built, len(self.loads))
-        return Answer(cheapest.cost, [counts, cheapest.lowest, marks])
+            return refusal(NOT_JOINED)
+        lowest = cheapest.lowest
+        return Answer(cheapest.cost, [[cheapest.how_many, lowest.build], lowest.numbers, lowest.marks])
+
+    def check(self, numbers):
+        if not rise(numbers) or not all([number < len(self.roads) for number in numbers]):
+            return refusal(NO_SUCH)
+        built = BuiltSet(numbers, self.roads, len(self.loads))
+        cost = built.cost_with(self.loads)
+        if cost is None:
+            return refusal(NOT_JOINED)
+        return Answer(cost, [[built.build], built.marks])
+
+    def alone(self, group):
+        landings = self.landings()
+        if not rise(group) or not all([i in landings for i in group]):
+            return refusal(NO_SUCH)
+        cheapest = cheapest_for(self.loads_from(group), self.every_set())
+        if cheapest.cost is None:
+            return refusal(NOT_JOINED)
+        return Answer(cheapest.cost, [cheapest.lowest.numbers])
+
+    def shares(self, paid):
+        if len(paid) != len(self.loads):
+            return refusal(OUT_OF_BOUNDS)
+        # Marking the places is the greater work, and it is the same for every group.
+        sets = self.every_set()
+        cheapest = cheapest_for(self.loads, sets)
+        if cheapest.cost is None:
+            return refusal(NOT_JOINED)
+        if paid_together(self.landings(), paid) != cheapest.cost:
+            return refusal(NOT_THE_COST)
+        for group in groups_earliest_first(self.landings()):
+            if cheapest_for(self.loads_from(group), sets).cost < paid_together(group, paid):
+                return Answer(0, [group])
+        return Answer(1, [])
 
     def has_place(self, i):
         return i < len(self.loads)
 
     def landings(self):
-        return len([n for n in self.loads if n > 0])
+        return [i for i, n in enumerate(self.loads) if n > 0]
+
+    def loads_from(self, group):
+        """The loads of this group's landings alone, for each place."""
+        return [n if i in group else 0 for i, n in enumerate(self.loads)]
+
+    def every_set(self):
+        """Every set of the forest's roads, lowest first."""
+        return [BuiltSet(numbers, self.roads, len(self.loads)) for numbers in sets_lowest_first(len(self.roads))]
 
 
-def cheapest_sets(roads, loads):
-    """The cheapest sets of these roads for these loads; their cost is None if no set joins all landings."""
+def refusal(number):
+    return Answer(number, [])
+
+
+def rise(numbers):
+    return all([number < higher for number, higher in zip(numbers, numbers[1:])])
+
+
+def paid_together(group, paid):
+    return sum([paid[i] for i in group])
+
+
+def cheapest_for(loads, sets):
+    """The cheapest of the sets, which come lowest first, for these loads; its cost is None if none joins them."""
     cheapest = Cheapest()
-    for chosen in sets_lowest_first(len(roads)):
-        cost = set_cost([roads[number] for number in chosen], loads)
+    for built in sets:
+        cost = built.cost_with(loads)
         if cost is not None:
-            cheapest.offer(cost, chosen)
+            cheapest.offer(cost, built)
     return cheapest
 
 
@@ -120,19 +192,13 @@ def sets_lowest_first(how_many):
     return sets
 
 
-def set_cost(built, loads):
-    """What the built roads cost with carrying these loads; None if they don't join all landings."""
-    cost = building_cost(built)
-    for n, mark in zip(loads, place_marks(built, len(loads))):
-        if n > 0:
-            if mark == 0:
-                return None
-            cost += n * (mark - 1)
-    return cost
-
-
-def building_cost(built):
-    return sum([road.build for road in built])
+def groups_earliest_first(landings):
+    """Every group of these landings, which rise; the landings of each rise too."""
+    groups = [[]]
+    # Each landing is lower than those taken before it, so all groups with it come behind all groups without it.
+    for landing in reversed(landings):
+        groups = groups + [[landing] + without for without in groups]
+    return groups
 
 
 def place_marks(built, places):

@@ -5,8 +5,11 @@ from forestroads.forest import Forest
 BEGINS = 0
 ROAD = 1
 LOAD = 2
+BEST = 3
+CHECK = 4
+ALONE = 5
 
-# How many numbers stand behind a call's own: begins, road, load, best.
+# How many numbers stand behind a call's own: begins, road, load, best. Later calls have a row, which tells how many.
 NUMBERS_BEHIND = (1, 4, 2, 0)
 
 
@@ -17,8 +20,13 @@ def answers(calls):
     at = 0
     while at < len(calls):
         kind = calls[at]
-        following = at + 1 + NUMBERS_BEHIND[kind]
-        answer = answer_of(forest, kind, calls[at + 1:following])
+        start = at + 1
+        if kind < len(NUMBERS_BEHIND):
+            following = start + NUMBERS_BEHIND[kind]
+        else:
+            start = at + 2
+            following = start + calls[at + 1]
+        answer = answer_of(forest, kind, calls[start:following])
         told.append(len(answer))
         told.extend(answer)
         at = following
@@ -33,7 +41,13 @@ def answer_of(forest, kind, given):
         return [forest.road(given[0], given[1], given[2], given[3])]
     if kind == LOAD:
         return [forest.load(given[0], given[1])]
-    return answer_with_lists(forest.best())
+    if kind == BEST:
+        return answer_with_lists(forest.best())
+    if kind == CHECK:
+        return answer_with_lists(forest.check(given))
+    if kind == ALONE:
+        return answer_with_lists(forest.alone(given))
+    return answer_with_lists(forest.shares(given))
 
 
 def answer_with_lists(answer):

@@ -2,7 +2,7 @@
 
 import unittest
 
-from helper import ask, ask_last, begins, best, best_answer, expected_best, load, road
+from helper import Draws, ask, ask_last, begins, best, best_answer, expected_best, forest_calls, load, road
 
 
 class NotJoined(unittest.TestCase):
@@ -152,38 +152,19 @@ class Greatest(unittest.TestCase):
         roads = [(0, 1, 100000, 100000), (1, 2, 100000, 0), (2, 3, 0, 100000), (3, 4, 100000, 100000),
                  (4, 5, 0, 0), (5, 6, 100000, 100000), (6, 0, 100000, 100000), (3, 6, 0, 100000), (1, 5, 1, 99999)]
         loads = {2: 1000, 3: 1000, 4: 1000, 5: 1000}
-        asked = [road(*one) for one in roads] + [load(i, n) for i, n in loads.items()]
-        self.assertEqual(ask_last(begins(7), *asked, best()), expected_best(7, roads, loads))
+        self.assertEqual(ask_last(*forest_calls(7, roads, loads), best()), expected_best(7, roads, loads))
 
 
 class BesideEveryWay(unittest.TestCase):
     """Many forests, each also weighed by trying every set and every way."""
 
-    def drawn(self, below):
-        # Always the same numbers, so that a failure comes again.
-        self.state = (self.state * 1103515245 + 12345) % 2147483648
-        return self.state // 65536 % below
-
-    def forest(self, most_roads, build, carry, n):
-        places = 2 + self.drawn(6)
-        roads = []
-        for k in range(self.drawn(most_roads + 1)):
-            a = self.drawn(places)
-            b = (a + 1 + self.drawn(places - 1)) % places
-            roads.append((a, b, self.drawn(build), self.drawn(carry)))
-        loads = {}
-        for k in range(self.drawn(5)):
-            loads[1 + self.drawn(places - 1)] = self.drawn(n)
-        return places, roads, loads
-
     def compare(self, times, most_roads, build, carry, n):
-        self.state = 7
+        draws = Draws()
         joined = 0
         for k in range(times):
-            places, roads, loads = self.forest(most_roads, build, carry, n)
-            asked = [road(*one) for one in roads] + [load(i, n) for i, n in loads.items()]
+            places, roads, loads = draws.forest(most_roads, build, carry, n)
             expected = expected_best(places, roads, loads)
-            self.assertEqual(ask_last(begins(places), *asked, best()), expected, (places, roads, loads))
+            self.assertEqual(ask_last(*forest_calls(places, roads, loads), best()), expected, (places, roads, loads))
             joined += expected != [-6]
         self.assertGreater(joined, times // 4)
         self.assertLess(joined, times)

@@ -99,6 +99,58 @@ class Language(unittest.TestCase):
             if kind(node) == "Attribute":
                 self.assertIn(node.attr, own | METHODS, (name, node.lineno))
 
+    def test_functions(self):
+        for name, node in self.nodes:
+            if kind(node) in ("FunctionDef", "Lambda"):
+                given = node.args
+                self.assertEqual([given.posonlyargs, given.kwonlyargs], [[], []], (name, node.lineno))
+                self.assertEqual([given.vararg, given.kwarg], [None, None], (name, node.lineno))
+            if kind(node) in ("FunctionDef", "ClassDef"):
+                self.assertEqual(node.decorator_list, [], (name, node.lineno))
+
+    def test_classes(self):
+        methods = set()
+        values = set()
+        for name, node in self.nodes:
+            if kind(node) == "ClassDef":
+                self.assertIn(node, self.trees[name].body)
+                self.assertLessEqual(len(node.bases), 1, (name, node.name))
+                here = [one.name for one in node.body if kind(one) == "FunctionDef"]
+                self.assertEqual(len(here), len(set(here)), (name, node.name))
+                # Behind the docstring a class has methods alone.
+                self.assertEqual(len(here), len(node.body) - 1, (name, node.name))
+                methods.update(here)
+            if kind(node) == "Attribute" and kind(node.ctx) == "Store":
+                values.add(node.attr)
+        self.assertEqual(methods & values, set())
+        of_python = {one for kept in (str, int, list, dict, set, bytes, tuple) for one in dir(kept)}
+        self.assertEqual((methods - {"__init__"} | values) & of_python, set())
+
+    def test_each_name_once_at_the_top(self):
+        for name, tree in self.trees.items():
+            bound = [node.targets[0].id for node in tree.body if kind(node) == "Assign"]
+            bound += [node.name for node in tree.body if kind(node) in ("FunctionDef", "ClassDef")]
+            bound += [one.name for node in tree.body if kind(node) == "ImportFrom" for one in node.names]
+            self.assertEqual(len(bound), len(set(bound)), name)
+
+    def test_comprehensions(self):
+        for name, node in self.nodes:
+            if kind(node) == "ListComp":
+                self.assertEqual(len(node.generators), 1, (name, node.lineno))
+                self.assertLessEqual(len(node.generators[0].ifs), 1, (name, node.lineno))
+
+    def test_is_beside_none_true_and_false_alone(self):
+        for name, node in self.nodes:
+            if kind(node) == "Compare" and any(kind(op) in ("Is", "IsNot") for op in node.ops):
+                self.assertIn(ast.unparse(node.comparators[0]), ("None", "True", "False"), (name, node.lineno))
+
+    def test_walked_at_once(self):
+        walked = [node.iter for name, node in self.nodes if kind(node) in ("For", "comprehension")]
+        for name, node in self.nodes:
+            if kind(node) == "Call" and kind(node.func) == "Name":
+                if node.func.id in ("zip", "enumerate", "reversed", "range"):
+                    self.assertIn(node, walked, (name, node.lineno))
+
 
 if __name__ == "__main__":
     unittest.main()

@@ -2,9 +2,8 @@
 
 import unittest
 
-from helper import ask, ask_last, begins, best, best_answer, load, road
+from helper import GREATEST, ask, ask_last, begins, best, best_answer, load, road
 
-GREATEST = 4294967295
 FOUR = tuple(load(i, 10 * i) for i in range(1, 5))
 
 

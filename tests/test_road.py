@@ -2,9 +2,7 @@
 
 import unittest
 
-from helper import ask, ask_last, begins, best, best_answer, load, road
-
-GREATEST = 4294967295
+from helper import GREATEST, ask, ask_last, begins, best, best_answer, load, road
 
 
 class Road(unittest.TestCase):
